@@ -26,7 +26,7 @@ func lines(kind int) (row, column line) {
 	return line(kind % 3), line(kind / 3)
 }
 
-// inverse turns a block whose coefficients are in its first rows. Wht is told of as it is, without any rounding, so that nothing is lost.
+// inverse turns a block whose coefficients are in its first rows. What Wht gives is neither brought down nor clipped, so that nothing is lost.
 func (b block) inverse(kind, side int) {
 	row, column := lines(kind)
 	b.each(clipped)
